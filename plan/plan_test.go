@@ -5,6 +5,7 @@ import (
 	"slices"
 	"testing"
 
+	"coxswain/api"
 	"coxswain/plan"
 )
 
@@ -37,5 +38,21 @@ func TestInOrder(t *testing.T) {
 	}
 	if l := plan.InOrder(map[int]string{1: "x", 0: "x"}); !slices.Equal(l, []string{"x", "x"}) {
 		t.Error(l)
+	}
+}
+
+// P26.3: whoever goes ahead comes first: of the higher priority, of one priority the lesser number.
+func TestOrder(t *testing.T) {
+	for _, c := range []struct{ prios, want []int }{
+		{nil, nil}, {[]int{7}, []int{0}}, {[]int{1, 5, 5}, []int{1, 2, 0}}, {[]int{3, 2, 1}, []int{0, 1, 2}}, {[]int{1, 2, 3, 2}, []int{2, 1, 3, 0}},
+		{[]int{0, 0, 0, 0}, []int{0, 1, 2, 3}}, {[]int{math.MinInt, math.MaxInt, -1}, []int{1, 2, 0}},
+	} {
+		var l []api.Task
+		for _, prio := range c.prios {
+			l = append(l, api.Task{Prio: prio})
+		}
+		if got := plan.Order(l); !slices.Equal(got, c.want) {
+			t.Errorf("%v: %v, not %v", c.prios, got, c.want)
+		}
 	}
 }
