@@ -88,6 +88,7 @@ func asking(r *rand.Rand) string {
 func TestTextsAndImages(t *testing.T) {
 	r := rand.New(rand.NewPCG(48, 7))
 	met := map[string]int{}
+	admitted := 0
 	for range 500 {
 		text, acting := crowd(r), asking(r)
 		acts, _, e := script.Parse(acting)
@@ -110,6 +111,12 @@ func TestTextsAndImages(t *testing.T) {
 		if !slices.Contains(want, "check 0") {
 			t.Fatalf("%s, %s: %q", text, acting, want)
 		}
+		if slices.Contains(want, "verdict 0 -1 -1") {
+			admitted++
+		}
+	}
+	if admitted < 100 || admitted > 400 {
+		t.Error(admitted)
 	}
 	for _, ask := range asked {
 		if met[ask] < 500 {
